@@ -1,0 +1,81 @@
+package op
+
+import "twinshaft/api"
+
+// names are the operations' names.
+func names() [api.Ops]string {
+	return [api.Ops]string{
+		api.OpNop:   "nop",
+		api.OpConst: "const",
+		api.OpMov:   "mov",
+		api.OpAdd:   "add",
+		api.OpSub:   "sub",
+		api.OpMul:   "mul",
+		api.OpDiv:   "div",
+		api.OpDivu:  "divu",
+		api.OpRem:   "rem",
+		api.OpRemu:  "remu",
+		api.OpAnd:   "and",
+		api.OpOr:    "or",
+		api.OpXor:   "xor",
+		api.OpShl:   "shl",
+		api.OpShr:   "shr",
+		api.OpSar:   "sar",
+		api.OpLt:    "lt",
+		api.OpLtu:   "ltu",
+		api.OpEq:    "eq",
+		api.OpNe:    "ne",
+		api.OpExt:   "ext",
+		api.OpLoad:  "load",
+		api.OpStore: "store",
+		api.OpLea:   "lea",
+		api.OpData:  "data",
+		api.OpJmp:   "jmp",
+		api.OpBrz:   "brz",
+		api.OpBrnz:  "brnz",
+		api.OpCall:  "call",
+		api.OpRet:   "ret",
+		api.OpGetb:  "getb",
+		api.OpPutb:  "putb",
+		api.OpExit:  "exit",
+	}
+}
+
+// shapes are the operations' shapes, a letter for each field: those that the chapter lists.
+func shapes() [api.Ops]string {
+	return [api.Ops]string{
+		api.OpNop:   "",
+		api.OpConst: "wi",
+		api.OpMov:   "wr",
+		api.OpAdd:   "wrr",
+		api.OpSub:   "wrr",
+		api.OpMul:   "wrr",
+		api.OpDiv:   "wrr",
+		api.OpDivu:  "wrr",
+		api.OpRem:   "wrr",
+		api.OpRemu:  "wrr",
+		api.OpAnd:   "wrr",
+		api.OpOr:    "wrr",
+		api.OpXor:   "wrr",
+		api.OpShl:   "wrr",
+		api.OpShr:   "wrr",
+		api.OpSar:   "wrr",
+		api.OpLt:    "wrr",
+		api.OpLtu:   "wrr",
+		api.OpEq:    "wrr",
+		api.OpNe:    "wrr",
+		api.OpExt:   "wrk",
+		api.OpLoad:  "wrm",
+		api.OpStore: "rrz",
+		api.OpLea:   "wf",
+		api.OpData:  "wd",
+		api.OpJmp:   "t",
+		api.OpBrz:   "rt",
+		api.OpBrnz:  "rt",
+		api.OpCall:  "wcl",
+		api.OpRet:   "r",
+		api.OpGetb:  "w",
+		api.OpPutb:  "r",
+		api.OpExit:  "r",
+	}
+}
