@@ -42,6 +42,7 @@ type input struct {
 }
 
 // reader reads a module from its input. Its methods return it, and do nothing once there is a fault.
+// What a method writes is asked for in a later statement only, never in the same one: the language leaves open whether a variable is read ahead of a call beside it.
 type reader struct {
 	input
 	m api.Module
@@ -99,7 +100,8 @@ func (r *reader) data() *reader {
 // functions reads how many functions there are, and these.
 func (r *reader) functions() *reader {
 	at, many := r.place, 0
-	r.number(&many, 1).need(some(many), api.ErrArg, at)
+	r.number(&many, 1)
+	r.need(some(many), api.ErrArg, at)
 	for range many {
 		r.function()
 	}
